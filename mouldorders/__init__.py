@@ -1,0 +1,1 @@
+"""Family-mould order planning: the minimum number of shots for an order."""
