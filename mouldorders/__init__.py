@@ -1,1 +1,1 @@
-"""Family-mould order planning: the minimum number of shots for an order."""
+"""Family-mould order planning: the minimum number of shots and prices that bound it."""

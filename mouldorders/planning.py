@@ -1,4 +1,4 @@
-"""Search for the best plan: the fewest shots that produce at least the demand."""
+"""Plans: what they produce, and the search for the best plan."""
 
 PART_KINDS = 3
 MOST_SHOTS = 20
@@ -48,3 +48,7 @@ def produced(moulds, plan):
 
 def parts_of_kind(moulds, plan, j):
     return sum([shots * mould[j] for shots, mould in zip(plan, moulds)])
+
+
+def is_sufficient(parts, demand):
+    return all([parts[j] >= demand[j] for j in range(PART_KINDS)])

@@ -33,8 +33,32 @@ def answer_of(shop, call):
         return shop.set_demand(singles[0], singles[1])
     if call.name == "set_all_demand":
         return shop.set_all_demand(call.row)
+    if call.name == "make_shots":
+        return shop.make_shots(singles[0], singles[1])
+    return answer_of_query(shop, call)
+
+
+# The calls that leave the instance as it is.
+def answer_of_query(shop, call):
+    singles = call.singles
     if call.name == "min_shots":
         return shop.min_shots()
     if call.name == "best_plan":
         return shop.best_plan()
-    return shop.surplus()
+    if call.name == "surplus":
+        return shop.surplus()
+    if call.name == "check_plan":
+        return shop.check_plan(call.row)
+    if call.name == "best_prices":
+        return shop.best_prices(singles[0])
+    if call.name == "check_prices":
+        return shop.check_prices(singles[0], call.row)
+    if call.name == "duality_gap":
+        return shop.duality_gap(singles[0])
+    if call.name == "min_shots_without":
+        return shop.min_shots_without(singles[0])
+    if call.name == "min_shots_if":
+        return shop.min_shots_if(singles[0], singles[1])
+    if call.name == "min_shots_with_only":
+        return shop.min_shots_with_only(singles[0])
+    return shop.describe()

@@ -12,6 +12,15 @@ FORMS = (
     ("min_shots", 0, False),
     ("best_plan", 0, False),
     ("surplus", 0, False),
+    ("check_plan", 0, True),
+    ("best_prices", 1, False),
+    ("check_prices", 1, True),
+    ("duality_gap", 1, False),
+    ("min_shots_without", 1, False),
+    ("min_shots_if", 2, False),
+    ("make_shots", 2, False),
+    ("min_shots_with_only", 1, False),
+    ("describe", 0, False),
 )
 
 

@@ -5,23 +5,21 @@ import unittest
 from tests.helper import (
     GREATEST,
     LEAST,
-    NO_INSTANCE,
     NO_SUCH_INDEX,
     OUT_OF_RANGE,
     TOO_MANY_MOULDS,
+    CallTest,
     add_mould,
     answer_after,
     ask,
-    best_plan,
     create,
-    min_shots,
     remove_mould,
     set_all_demand,
     set_demand,
     set_mould,
     setting,
     state_after,
-    surplus,
+    with_value,
 )
 
 MOULDS = [[1, 2, 3], [4, 5, 6], [6, 0, 1]]
@@ -32,48 +30,6 @@ BEFORE_FULL = setting(FULL, DEMAND)
 BAD_YIELDS = [-1, 7, LEAST, GREATEST]
 BAD_AMOUNTS = [-1, 41, LEAST, GREATEST]
 BAD_INDEXES = [-1, -2, -3, -4, 3, 4, LEAST, GREATEST]
-
-
-def with_value(values, place, value):
-    return values[:place] + [value] + values[place + 1:]
-
-
-class ChangeTest(unittest.TestCase):
-    def assert_refused(self, before, call, refusal):
-        """The call is refused and the instance is the same behind it."""
-        self.assertEqual(answer_after(before, call), refusal, call)
-        self.assertEqual(state_after(before + [call]), state_after(before), call)
-
-
-class NoInstanceTest(unittest.TestCase):
-    def test_each_call_before_create(self):
-        for call in [
-            add_mould(1, 1, 1),
-            remove_mould(0),
-            set_mould(0, 1, 1, 1),
-            set_demand(0, 1),
-            set_all_demand([1, 1, 1]),
-            min_shots(),
-            best_plan(),
-            surplus(),
-        ]:
-            self.assertEqual(ask(call), [NO_INSTANCE], call)
-
-    def test_it_is_checked_ahead_of_every_other_error(self):
-        for call in [
-            add_mould(-1, 7, LEAST),
-            remove_mould(-1),
-            set_mould(9, 9, 9, 9),
-            set_demand(3, 41),
-            set_all_demand([]),
-            set_all_demand([-1] * 70),
-        ]:
-            self.assertEqual(ask(call), [NO_INSTANCE], call)
-
-    def test_calls_ahead_of_create_do_nothing(self):
-        calls = [add_mould(1, 1, 1), set_all_demand([1, 2, 3]), min_shots(), create()]
-        self.assertEqual(ask(*calls), [NO_INSTANCE, NO_INSTANCE, NO_INSTANCE, [0]])
-        self.assertEqual(state_after(calls), ([], [0, 0, 0]))
 
 
 class CreateTest(unittest.TestCase):
@@ -88,7 +44,7 @@ class CreateTest(unittest.TestCase):
         self.assertEqual(answer_after(calls, add_mould(1, 1, 1)), [0])
 
 
-class AddMouldTest(ChangeTest):
+class AddMouldTest(CallTest):
     def test_indexes_and_yields(self):
         self.assertEqual(ask(create(), *[add_mould(*mould) for mould in FULL]), [[0], [0], [1], [2], [3]])
         self.assertEqual(state_after(BEFORE_FULL), (FULL, DEMAND))
@@ -101,15 +57,15 @@ class AddMouldTest(ChangeTest):
     def test_each_yield_out_of_range(self):
         for place in range(3):
             for bad in BAD_YIELDS:
-                self.assert_refused(BEFORE, add_mould(*with_value([1, 2, 3], place, bad)), OUT_OF_RANGE)
+                self.assert_nothing_changes(BEFORE, add_mould(*with_value([1, 2, 3], place, bad)), OUT_OF_RANGE)
 
     def test_a_fifth_mould(self):
-        self.assert_refused(BEFORE_FULL, add_mould(1, 1, 1), TOO_MANY_MOULDS)
+        self.assert_nothing_changes(BEFORE_FULL, add_mould(1, 1, 1), TOO_MANY_MOULDS)
 
     def test_the_range_is_checked_ahead_of_the_number_of_moulds(self):
         for place in range(3):
             for bad in BAD_YIELDS:
-                self.assert_refused(BEFORE_FULL, add_mould(*with_value([1, 2, 3], place, bad)), OUT_OF_RANGE)
+                self.assert_nothing_changes(BEFORE_FULL, add_mould(*with_value([1, 2, 3], place, bad)), OUT_OF_RANGE)
 
     def test_there_is_room_again_behind_remove_mould(self):
         calls = BEFORE_FULL + [add_mould(1, 1, 1), remove_mould(1), add_mould(0, 1, 0), add_mould(1, 1, 1)]
@@ -117,7 +73,7 @@ class AddMouldTest(ChangeTest):
         self.assertEqual(state_after(calls)[0], [FULL[0], FULL[2], FULL[3], [0, 1, 0]])
 
 
-class RemoveMouldTest(ChangeTest):
+class RemoveMouldTest(CallTest):
     def test_each_mould(self):
         for i in range(4):
             calls = BEFORE_FULL + [remove_mould(i)]
@@ -131,12 +87,12 @@ class RemoveMouldTest(ChangeTest):
 
     def test_no_such_mould(self):
         for i in BAD_INDEXES:
-            self.assert_refused(BEFORE, remove_mould(i), NO_SUCH_INDEX)
-        self.assert_refused([create()], remove_mould(0), NO_SUCH_INDEX)
-        self.assert_refused(BEFORE_FULL, remove_mould(4), NO_SUCH_INDEX)
+            self.assert_nothing_changes(BEFORE, remove_mould(i), NO_SUCH_INDEX)
+        self.assert_nothing_changes([create()], remove_mould(0), NO_SUCH_INDEX)
+        self.assert_nothing_changes(BEFORE_FULL, remove_mould(4), NO_SUCH_INDEX)
 
 
-class SetMouldTest(ChangeTest):
+class SetMouldTest(CallTest):
     def test_it_answers_the_yields_before(self):
         for i in range(3):
             calls = BEFORE + [set_mould(i, 0, 6, 2), set_mould(i, 3, 3, 3)]
@@ -150,21 +106,21 @@ class SetMouldTest(ChangeTest):
 
     def test_no_such_mould(self):
         for i in BAD_INDEXES:
-            self.assert_refused(BEFORE, set_mould(i, 1, 1, 1), NO_SUCH_INDEX)
-        self.assert_refused([create()], set_mould(0, 1, 1, 1), NO_SUCH_INDEX)
-        self.assert_refused(BEFORE_FULL, set_mould(4, 1, 1, 1), NO_SUCH_INDEX)
+            self.assert_nothing_changes(BEFORE, set_mould(i, 1, 1, 1), NO_SUCH_INDEX)
+        self.assert_nothing_changes([create()], set_mould(0, 1, 1, 1), NO_SUCH_INDEX)
+        self.assert_nothing_changes(BEFORE_FULL, set_mould(4, 1, 1, 1), NO_SUCH_INDEX)
 
     def test_each_yield_out_of_range(self):
         for place in range(3):
             for bad in BAD_YIELDS:
-                self.assert_refused(BEFORE, set_mould(1, *with_value([1, 2, 3], place, bad)), OUT_OF_RANGE)
+                self.assert_nothing_changes(BEFORE, set_mould(1, *with_value([1, 2, 3], place, bad)), OUT_OF_RANGE)
 
     def test_the_index_is_checked_ahead_of_the_yields(self):
         for i in BAD_INDEXES:
-            self.assert_refused(BEFORE, set_mould(i, -1, 7, GREATEST), NO_SUCH_INDEX)
+            self.assert_nothing_changes(BEFORE, set_mould(i, -1, 7, GREATEST), NO_SUCH_INDEX)
 
 
-class SetDemandTest(ChangeTest):
+class SetDemandTest(CallTest):
     def test_it_answers_the_amount_before(self):
         for j in range(3):
             calls = BEFORE + [set_demand(j, 40), set_demand(j, 0), set_demand(j, 5)]
@@ -173,20 +129,20 @@ class SetDemandTest(ChangeTest):
 
     def test_no_such_part(self):
         for j in BAD_INDEXES:
-            self.assert_refused(BEFORE_FULL, set_demand(j, 1), NO_SUCH_INDEX)
+            self.assert_nothing_changes(BEFORE_FULL, set_demand(j, 1), NO_SUCH_INDEX)
 
     def test_amount_out_of_range(self):
         for j in range(3):
             for bad in BAD_AMOUNTS:
-                self.assert_refused(BEFORE, set_demand(j, bad), OUT_OF_RANGE)
+                self.assert_nothing_changes(BEFORE, set_demand(j, bad), OUT_OF_RANGE)
 
     def test_the_part_is_checked_ahead_of_the_amount(self):
         for j in BAD_INDEXES:
             for bad in BAD_AMOUNTS:
-                self.assert_refused(BEFORE, set_demand(j, bad), NO_SUCH_INDEX)
+                self.assert_nothing_changes(BEFORE, set_demand(j, bad), NO_SUCH_INDEX)
 
 
-class SetAllDemandTest(ChangeTest):
+class SetAllDemandTest(CallTest):
     def test_it_answers_the_sum(self):
         for amounts in [[1, 2, 4], [0, 0, 0], [40, 40, 40], [0, 40, 0], [40, 0, 40]]:
             calls = BEFORE + [set_all_demand(amounts)]
@@ -195,16 +151,16 @@ class SetAllDemandTest(ChangeTest):
 
     def test_other_lengths(self):
         for length in [0, 1, 2, 4, 70]:
-            self.assert_refused(BEFORE, set_all_demand([1] * length), OUT_OF_RANGE)
+            self.assert_nothing_changes(BEFORE, set_all_demand([1] * length), OUT_OF_RANGE)
 
     def test_other_lengths_with_amounts_out_of_range(self):
         for length in [1, 2, 4, 70]:
-            self.assert_refused(BEFORE, set_all_demand([41] * length), OUT_OF_RANGE)
+            self.assert_nothing_changes(BEFORE, set_all_demand([41] * length), OUT_OF_RANGE)
 
     def test_each_amount_out_of_range(self):
         for place in range(3):
             for bad in BAD_AMOUNTS:
-                self.assert_refused(BEFORE, set_all_demand(with_value([1, 2, 3], place, bad)), OUT_OF_RANGE)
+                self.assert_nothing_changes(BEFORE, set_all_demand(with_value([1, 2, 3], place, bad)), OUT_OF_RANGE)
 
 
 if __name__ == "__main__":
